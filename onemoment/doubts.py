@@ -1,7 +1,7 @@
 """Why moments can't be found: the first thing that stands against them, and the operations that show it."""
 
 from onemoment.operations import is_reading, writings_by_value
-from onemoment.zones import find_zones, zones_clash
+from onemoment.zones import find_clashes, find_zones
 
 NO_DOUBT = 0
 FROM_NOWHERE = 1
@@ -25,15 +25,6 @@ def show_too_early(operations, writings):
     return []
 
 
-def first_clash(zones):
-    present = list(zones)
-    for place, value in enumerate(present):
-        for other in present[place + 1:]:
-            if zones_clash(zones[value], zones[other]):
-                return [value, other]
-    return []
-
-
 # With these alone the value keeps its first end and its last beginning, so it still clashes.
 def holders(operations, zone):
     starting = [number for number in zone.own if operations[number].start == zone.last_start]
@@ -45,10 +36,11 @@ def holders(operations, zone):
 
 def show_clash(operations):
     zones = find_zones(operations)
-    shown = []
-    for value in first_clash(zones):
-        shown.extend(holders(operations, zones[value]))
-    return sorted(set(shown))
+    clashes = find_clashes(zones)
+    if not clashes:
+        return []
+    first = clashes[0]
+    return sorted(set(holders(operations, zones[first[0]]) + holders(operations, zones[first[1]])))
 
 
 def find_doubt(operations):

@@ -18,8 +18,16 @@ class Operation:
         self.end = end
 
 
+def open_writing(value, start):
+    return Operation(OPEN_WRITING, value, start, OPEN_END)
+
+
 def is_reading(operation):
     return operation.kind == READING
+
+
+def is_open(operation):
+    return operation.kind == OPEN_WRITING
 
 
 def writings_by_value(operations):
@@ -36,3 +44,9 @@ def readings_by_value(operations):
         if is_reading(operation):
             found.setdefault(operation.value, []).append(number)
     return found
+
+
+# The end of an open writing isn't known, so 0 is told in its place.
+def four_numbers(operation):
+    end = 0 if is_open(operation) else operation.end
+    return [operation.kind, operation.value, operation.start, end]

@@ -1,10 +1,13 @@
 """The calls on one object, and what each of them answers."""
 
-from onemoment.doubts import find_doubt, moments_can_be_found
-from onemoment.operations import LAST_TIME, LAST_VALUE, OPEN_END, OPEN_WRITING, READING, WRITING
-from onemoment.operations import Operation, writings_by_value
+from onemoment.doubts import FROM_NOWHERE, TOO_EARLY, find_doubt, moments_can_be_found
+from onemoment.known import first_time_of_doubt, known_at
+from onemoment.lateness import least_amount
+from onemoment.operations import LAST_TIME, LAST_VALUE, READING, WRITING
+from onemoment.operations import Operation, four_numbers, is_open, open_writing, writings_by_value
 from onemoment.orders import find_moments, find_order
-from onemoment.zones import find_zones
+from onemoment.supposed import could_be_found_without, find_blamed, values_one_more_could_read
+from onemoment.zones import find_sure, find_zones, must_come_before
 
 NONE_SUCH = -2
 NOT_BEGUN = -11
@@ -52,6 +55,14 @@ def can_be_written(value):
     return 1 <= value <= LAST_VALUE
 
 
+def yes_or_no(holds):
+    return 1 if holds else 0
+
+
+def counted(found):
+    return [len(found)] + found
+
+
 def begin(tellings, given):
     tellings.begun = True
     tellings.operations = []
@@ -69,7 +80,7 @@ def open_write(tellings, given):
     value = given[0]
     if not can_be_written(value) or not is_time(given[1]):
         return [NOT_AS_TOLD]
-    return tellings.tell_writing(Operation(OPEN_WRITING, value, given[1], OPEN_END))
+    return tellings.tell_writing(open_writing(value, given[1]))
 
 
 def read(tellings, given):
@@ -87,7 +98,7 @@ def ended(tellings, given):
     if not tellings.has(number):
         return [NONE_SUCH]
     operation = tellings.operations[number]
-    if operation.kind != OPEN_WRITING:
+    if not is_open(operation):
         return [NOT_OPEN]
     if not are_times(operation.start, time):
         return [NOT_AS_TOLD]
@@ -103,7 +114,7 @@ def out(tellings, given):
 
 
 def kept(tellings, given):
-    return [1 if moments_can_be_found(tellings.operations) else 0]
+    return [yes_or_no(moments_can_be_found(tellings.operations))]
 
 
 def why(tellings, given):
@@ -113,15 +124,13 @@ def why(tellings, given):
 def order(tellings, given):
     if not moments_can_be_found(tellings.operations):
         return [NOT_AS_TOLD]
-    found = find_order(tellings.operations)
-    return [len(found)] + found
+    return counted(find_order(tellings.operations))
 
 
 def moments(tellings, given):
     if not moments_can_be_found(tellings.operations):
         return [NOT_AS_TOLD]
-    found = find_moments(tellings.operations)
-    return [len(found)] + found
+    return counted(find_moments(tellings.operations))
 
 
 def zone(tellings, given):
@@ -130,22 +139,91 @@ def zone(tellings, given):
         return [NONE_SUCH]
     first_end = zones[given[0]].first_end
     last_start = zones[given[0]].last_start
-    return [1 if first_end < last_start else 0, min(first_end, last_start), max(first_end, last_start)]
+    return [yes_or_no(first_end < last_start), min(first_end, last_start), max(first_end, last_start)]
+
+
+def before(tellings, given):
+    zones = find_zones(tellings.operations)
+    value = given[0]
+    other = given[1]
+    if value not in zones or other not in zones:
+        return [NONE_SUCH]
+    if value == other:
+        return [NOT_AS_TOLD]
+    return [yes_or_no(must_come_before(zones[value], zones[other])),
+            yes_or_no(must_come_before(zones[other], zones[value]))]
+
+
+def late(tellings, given):
+    if find_doubt(tellings.operations)[0] in (FROM_NOWHERE, TOO_EARLY):
+        return [NOT_AS_TOLD]
+    return [least_amount(tellings.operations)]
+
+
+def without(tellings, given):
+    if not tellings.has(given[0]):
+        return [NONE_SUCH]
+    return [yes_or_no(could_be_found_without(tellings.operations, given[0]))]
+
+
+def blame(tellings, given):
+    return counted(find_blamed(tellings.operations))
+
+
+def since(tellings, given):
+    return [first_time_of_doubt(tellings.operations)]
+
+
+def cut(tellings, given):
+    if given[0] > LAST_TIME:
+        return [NOT_AS_TOLD]
+    tellings.operations = known_at(tellings.operations, given[0])
+    return [len(tellings.operations)]
+
+
+# The one more reading is only supposed, so there is room for it also where 24 are told.
+def could(tellings, given):
+    if not are_times(given[0], given[1]):
+        return [NOT_AS_TOLD]
+    return counted(values_one_more_could_read(tellings.operations, given[0], given[1]))
+
+
+def sure(tellings, given):
+    if given[0] > LAST_TIME:
+        return [NOT_AS_TOLD]
+    return counted(find_sure(find_zones(tellings.operations), given[0]))
+
+
+def op(tellings, given):
+    if not tellings.has(given[0]):
+        return [NONE_SUCH]
+    return [0] + four_numbers(tellings.operations[given[0]])
+
+
+def values_there_are(tellings, given):
+    return counted(list(find_zones(tellings.operations)))
+
+
+def state(tellings, given):
+    told = [len(tellings.operations)]
+    for operation in tellings.operations:
+        told.extend(four_numbers(operation))
+    return told
 
 
 # Each call's place here is its number.
-CALLS = (begin, write, open_write, read, ended, out, kept, why, order, moments, zone)
+CALLS = (
+    begin, write, open_write, read, ended, out, kept, why, order, moments, zone,
+    before, late, without, blame, since, cut, could, sure, op, values_there_are, state,
+)
 
-# How many whole numbers each call is given, by its number. It goes further than CALLS,
-# since ahead of the first begin a call is answered whatever it is.
+# How many whole numbers each call is given, by its number.
 WIDTHS = (0, 3, 2, 3, 2, 1, 0, 0, 0, 0, 1, 2, 0, 1, 0, 0, 1, 2, 1, 1, 0, 0)
 
 
 def answer(tellings, number, given):
     if number != BEGIN and not tellings.begun:
         return [NOT_BEGUN]
-    if number >= len(CALLS):
-        raise NotImplementedError(f"call {number}")
     call = CALLS[number]
     return call(tellings, given)
 

@@ -1,6 +1,6 @@
 """The values that there are, each with its own operations and the two times that place it among the others."""
 
-from onemoment.operations import WRITING, readings_by_value, writings_by_value
+from onemoment.operations import is_open, readings_by_value, writings_by_value
 
 
 class Zone:
@@ -24,14 +24,14 @@ def zone_of_written(operations, writing, readings):
     return Zone(writing, own, min(ends), max(starts))
 
 
-# The zones stand by value, the least value first: clashes and orders rely on it.
+# The zones stand by value, the least value first: clashes, orders and what is told of values rely on it.
 def find_zones(operations):
     writings = writings_by_value(operations)
     readings = readings_by_value(operations)
     zones = {0: zone_of_zero(operations, readings.get(0, []))}
     for value in sorted(writings):
         writing = writings[value]
-        if operations[writing].kind == WRITING or value in readings:
+        if not is_open(operations[writing]) or value in readings:
             zones[value] = zone_of_written(operations, writing, readings.get(value, []))
     return zones
 
@@ -42,3 +42,22 @@ def must_come_before(zone, other):
 
 def zones_clash(zone, other):
     return must_come_before(zone, other) and must_come_before(other, zone)
+
+
+# Each pair has its lesser value first, and the pairs stand from the least to the greatest.
+def find_clashes(zones):
+    present = list(zones)
+    clashes = []
+    for place, value in enumerate(present):
+        for other in present[place + 1:]:
+            if zones_clash(zones[value], zones[other]):
+                clashes.append((value, other))
+    return clashes
+
+
+def is_sure(zone, time):
+    return zone.first_end < time < zone.last_start
+
+
+def find_sure(zones, time):
+    return [value for value in zones if is_sure(zones[value], time)]

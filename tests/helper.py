@@ -28,8 +28,15 @@ KEPT = ("kept",)
 WHY = ("why",)
 ORDER = ("order",)
 MOMENTS = ("moments",)
+LATE = ("late",)
+BLAME = ("blame",)
+SINCE = ("since",)
+VALUES = ("values",)
+STATE = ("state",)
 
+LAST_TIME = 1000000
 OPEN_END = 1000001
+KINDS = {"read": 0, "write": 1, "open_write": 2}
 
 
 def encode(calls):
@@ -70,10 +77,11 @@ def last(*calls):
     return run(BEGIN, *calls)[-1]
 
 
-# All that calls 6 to 10 show of what is told, and then how many operations there are.
+# All that the calls show of what is told, and then what room there is behind it.
 def probe():
-    calls = [KEPT, WHY, ORDER, MOMENTS]
+    calls = [STATE, VALUES, KEPT, WHY, ORDER, MOMENTS, LATE, BLAME, SINCE, ("sure", 5), ("could", 5, 6)]
     calls.extend([("zone", value) for value in range(42)])
+    calls.extend([("op", number) for number in range(25)])
     calls.extend([("ended", number, 1000000) for number in range(25)])
     calls.extend([WHY, ORDER, MOMENTS])
     calls.extend([("zone", value) for value in range(42)])
@@ -176,6 +184,95 @@ def right_zone(operations, value):
         return [-2]
     two = [first_end(operations, value), last_beginning(operations, value)]
     return [1 if two[0] < two[1] else 0] + sorted(two)
+
+
+def right_before(operations, value, other):
+    if value not in present(operations) or other not in present(operations):
+        return [-2]
+    if value == other:
+        return [-22]
+    return [int(must_before(operations, value, other)), int(must_before(operations, other, value))]
+
+
+def right_sure(operations, time):
+    if time > LAST_TIME:
+        return [-22]
+    found = [value for value in present(operations)
+             if first_end(operations, value) < time and last_beginning(operations, value) > time]
+    return [len(found)] + found
+
+
+def begun_earlier(operations, amount):
+    return [(kind, value, max(0, start - amount) if kind == "read" else start, end)
+            for kind, value, start, end in operations]
+
+
+def right_late(operations):
+    if right_why(operations)[0] in (1, 2):
+        return [-22]
+    # Only where a beginning comes to stand at an end, or at 0, does anything become otherwise.
+    ends = [operation[3] for operation in operations] + [0]
+    starts = [operation[2] for operation in operations if operation[0] == "read"]
+    amounts = {0} | {start - end for start in starts for end in ends if start > end}
+    return [min(amount for amount in amounts if right_why(begun_earlier(operations, amount)) == [0])]
+
+
+def all_but(operations, number):
+    return [operation for n, operation in enumerate(operations) if n != number]
+
+
+def right_without(operations, number):
+    if number >= len(operations):
+        return [-2]
+    return [int(right_why(all_but(operations, number)) == [0])]
+
+
+def right_blame(operations):
+    if right_why(operations) == [0]:
+        return [0]
+    found = [n for n in range(len(operations)) if right_without(operations, n) == [1]]
+    return [len(found)] + found
+
+
+def known_at(operations, time):
+    known = []
+    for kind, value, start, end in operations:
+        if start > time or (kind == "read" and end > time):
+            continue
+        if kind != "read" and end > time:
+            known.append(("open_write", value, start, OPEN_END))
+        else:
+            known.append((kind, value, start, end))
+    return known
+
+
+def right_since(operations):
+    # Between these times nobody begins or ends, so what's known stays the same.
+    times = {time for operation in operations for time in operation[2:] if time <= LAST_TIME}
+    doubted = [time for time in times if right_why(known_at(operations, time)) != [0]]
+    return [min(doubted, default=0)]
+
+
+def right_could(operations, start, end):
+    if not 1 <= start <= end <= LAST_TIME:
+        return [-22]
+    written = sorted(operation[1] for operation in operations if operation[0] != "read")
+    found = [value for value in [0] + written
+             if right_why(operations + [("read", value, start, end)]) == [0]]
+    return [len(found)] + found
+
+
+def four(operation):
+    kind, value, start, end = operation
+    return [KINDS[kind], value, start, 0 if kind == "open_write" else end]
+
+
+def right_op(operations, number):
+    return [0] + four(operations[number]) if number < len(operations) else [-2]
+
+
+def right_state(operations):
+    return [len(operations)] + [number for operation in operations for number in four(operation)]
 
 
 # --- what holds, without zones or clashes ---------------------------------------------

@@ -1,12 +1,12 @@
-"""What holds a, b, c and h, on many small drawn inputs."""
+"""What holds a, b and c, on many small drawn inputs."""
 
 import itertools
 import random
 import unittest
 
 from tests.helper import (
-    BEGIN, GIVEN, KEPT, MOMENTS, ORDER, WHY, as_calls, counting, drawn, drawn_true, order_faults, probe,
-    right_order, right_why, right_zone, run, some_order_explains, told,
+    KEPT, MOMENTS, ORDER, WHY, as_calls, counting, drawn, drawn_true, order_faults, right_order, right_why,
+    right_zone, some_order_explains, told,
 )
 
 SMALL = drawn(1, 3000)
@@ -116,99 +116,6 @@ class Zones(unittest.TestCase):
             rows = told(*as_calls(operations), *[("zone", value) for value in range(42)])
             right = [right_zone(operations, value) for value in range(42)]
             self.assertEqual(rows[len(operations):], right, operations)
-
-
-class Lines(unittest.TestCase):
-    """Whole lines of calls 0 to 10, against an object kept by the document's words."""
-
-    def draw_call(self, draw):
-        name = draw.choice(["write", "open_write", "read", "read", "ended", "out", "kept", "why", "order",
-                            "moments", "zone", "write", "open_write", "read", "ended"])
-        if draw.randrange(60) == 0:
-            name = "begin"
-        if name in ("write", "read"):
-            return (name, draw.randint(0, 7), draw.randint(0, 9), draw.choice([0, 5, 9, 12, 14, 1000000, 1000001]))
-        if name == "open_write":
-            return (name, draw.randint(0, 7), draw.choice([0, 1, 4, 6, 9, 12, 1000000, 1000001]))
-        if name == "ended":
-            return (name, draw.randint(0, 9), draw.choice([0, 3, 6, 9, 12, 1000000, 1000001]))
-        if name == "out":
-            return (name, draw.randint(0, 50))
-        return (name,) + tuple(draw.randint(0, 9) for _ in range(GIVEN[name]))
-
-    def right_answer(self, operations, call):
-        name, given = call[0], call[1:]
-        if name == "begin":
-            operations.clear()
-            return [0]
-        if name in ("write", "open_write", "read"):
-            return self.right_telling(operations, name, given)
-        if name in ("ended", "out"):
-            return self.right_change(operations, name, given)
-        why = right_why(operations)
-        if name == "kept":
-            return [1 if why == [0] else 0]
-        if name == "why":
-            return why
-        if name == "zone":
-            return right_zone(operations, given[0])
-        order = right_order(operations)
-        if order is None:
-            return [-22]
-        if name == "order":
-            return [len(order)] + order
-        starts = [operations[number][2] for number in order]
-        return [len(order)] + list(itertools.accumulate(starts, max))
-
-    def right_telling(self, operations, name, given):
-        value, start = given[0], given[1]
-        end = 1000001 if name == "open_write" else given[2]
-        if value not in range(0 if name == "read" else 1, 41) or start not in range(1, 1000001):
-            return [-22]
-        if name != "open_write" and end not in range(start, 1000001):
-            return [-22]
-        if name != "read" and any(o[0] != "read" and o[1] == value for o in operations):
-            return [-17]
-        if len(operations) == 24:
-            return [-28]
-        operations.append((name, value, start, end))
-        return [len(operations) - 1]
-
-    def right_change(self, operations, name, given):
-        if given[0] not in range(len(operations)):
-            return [-2]
-        if name == "out":
-            operations.pop(given[0])
-            return [len(operations)]
-        kind, value, start, _ = operations[given[0]]
-        if kind != "open_write":
-            return [-16]
-        if given[1] not in range(start, 1000001):
-            return [-22]
-        operations[given[0]] = ("write", value, start, given[1])
-        return [0]
-
-    def test_as_told(self):
-        draw = random.Random(7)
-        seen = {}
-        for _ in range(200):
-            calls = [self.draw_call(draw) for _ in range(draw.randint(1, 250))]
-            operations = []
-            right = [self.right_answer(operations, call) for call in [BEGIN] + calls]
-            self.assertEqual(run(BEGIN, *calls), right, calls)
-            for answer in right:
-                seen[min(answer[0], 0)] = True
-        self.assertEqual(sorted(seen), [-28, -22, -17, -16, -2, 0])
-
-    def test_what_is_refused_changes_nothing(self):
-        draw = random.Random(8)
-        for _ in range(200):
-            calls = [BEGIN] + [self.draw_call(draw) for _ in range(draw.randint(1, 60))]
-            rows = run(*calls)
-            taken = [call for call, row in zip(calls, rows) if row[0] >= 0]
-            right = [row for row in rows if row[0] >= 0]
-            self.assertEqual(run(*taken), right, calls)
-            self.assertEqual(run(*calls, *probe())[len(calls):], run(*taken, *probe())[len(taken):], calls)
 
 
 if __name__ == "__main__":

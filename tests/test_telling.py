@@ -2,7 +2,9 @@
 
 import unittest
 
-from tests.helper import BEGIN, KEPT, MOMENTS, ORDER, WHY, last, probe, run, told
+from tests.helper import (
+    BEGIN, BLAME, KEPT, LATE, MOMENTS, ORDER, SINCE, STATE, VALUES, WHY, last, probe, run, told,
+)
 
 GREATEST = 4294967295
 
@@ -223,6 +225,9 @@ class RefusedChangesNothing(unittest.TestCase):
             ("read", 0, 5, 4), ("read", 1, 5, 1000001), ("ended", 6, 9), ("ended", 0, 9),
             ("ended", 2, 9), ("ended", 1, 7), ("ended", 1, 0), ("ended", 1, 1000001), ("out", 6),
             ("out", GREATEST), ("zone", 3), ("zone", 4), ("zone", 41),
+            ("before", 0, 3), ("before", 4, 4), ("before", 1, 1), ("without", 6), ("without", GREATEST),
+            ("cut", 1000001), ("cut", GREATEST), ("could", 0, 1), ("could", 5, 4), ("could", 5, 1000001),
+            ("sure", 1000001), ("sure", GREATEST), ("op", 6), ("op", GREATEST),
         ]
         self.held(before, refused)
         for call in refused:
@@ -231,17 +236,22 @@ class RefusedChangesNothing(unittest.TestCase):
     def test_with_24(self):
         before = writings(22) + [("open_write", 23, 6), ("read", 23, 7, 9)]
         self.held(before, [("write", 40, 1, 1), ("open_write", 40, 1), ("read", 0, 1, 1),
-                           ("write", 1, 1, 1), ("ended", 24, 9), ("out", 24)])
+                           ("write", 1, 1, 1), ("ended", 24, 9), ("out", 24), ("without", 24), ("op", 24),
+                           ("could", 2, 1), ("cut", 1000001)])
 
     def test_where_no_moments_can_be_found(self):
         self.held([("write", 1, 1, 2), ("read", 0, 3, 4)], [ORDER, MOMENTS, ("zone", 2)])
+        self.held([("read", 1, 3, 4), ("write", 2, 1, 2)], [ORDER, MOMENTS, LATE])
 
     def test_asking_changes_nothing_either(self):
         before = [("write", 2, 5, 9), ("open_write", 1, 8), ("read", 2, 7, 12), ("read", 1, 3, 9)]
-        asked = [KEPT, WHY, ORDER, MOMENTS, ("zone", 0), ("zone", 2)]
-        plain = told(*before, *probe())
-        rows = told(*before, *asked, *probe())
-        self.assertEqual(rows[:4] + rows[4 + len(asked):], plain)
+        asked = [KEPT, WHY, ORDER, MOMENTS, ("zone", 0), ("zone", 2), ("before", 1, 2), LATE, ("without", 1), BLAME,
+                 SINCE, ("could", 4, 9), ("could", 1, 1), ("sure", 8), ("op", 1), VALUES, STATE]
+        for more in ([], [("read", 0, 20, 21)], [("read", 3, 1, 1)], [("read", 1, 1, 2)]):
+            plain = told(*before, *more, *probe())
+            rows = told(*before, *more, *asked, *probe())
+            told_before = len(before) + len(more)
+            self.assertEqual(rows[:told_before] + rows[told_before + len(asked):], plain)
 
 
 if __name__ == "__main__":
