@@ -157,6 +157,11 @@ class Clashes(Holding):
                      ("write", 2, 5, 30), ("read", 1, 12, 13), ("read", 1, 12, 14), ("read", 2, 9, 9),
                      ("read", 2, 9, 9))
 
+    def test_the_first_of_like_ones_may_stand_ahead_of_the_writing(self):
+        # Of 1 a reading ends first together with the writing; of 2 one begins last together with it.
+        self.doubted([3, 0, 1, 2, 3], ("read", 1, 1, 2), ("write", 1, 1, 2), ("write", 2, 3, 4), ("read", 1, 5, 6))
+        self.doubted([3, 0, 1, 2, 3], ("read", 2, 3, 9), ("write", 1, 1, 2), ("write", 2, 3, 4), ("read", 1, 5, 6))
+
     def test_six(self):
         self.doubted([3, 0, 1, 2, 3, 4, 5], ("write", 1, 1, 40), ("write", 2, 1, 40), ("read", 1, 2, 3),
                      ("read", 2, 2, 3), ("read", 1, 10, 11), ("read", 2, 10, 11))
