@@ -132,7 +132,9 @@ class Longest(unittest.TestCase):
             "before": [1, 1], "late": [98], "without": [0], "blame": [0], "since": [201], "cut": [24], "could": [0],
             "sure": [12, *range(1, 13)], "op": [0, 0, 3, 100, 203], "values": [13, *range(13)],
         }
-        given = {"before": (3, 7), "without": (5,), "cut": (1000000,), "could": (1, 1000000), "sure": (50,), "op": (21,)}
+        given = {
+            "before": (3, 7), "without": (5,), "cut": (1000000,), "could": (1, 1000000), "sure": (50,), "op": (21,),
+        }
         for name, answer in right.items():
             rows = run(*calls, *[(name, *given.get(name, ()))] * 375)
             self.assertEqual(rows[25:], [answer] * 375, name)

@@ -261,7 +261,8 @@ def python_s_own_as_called(file):
     for node in file.all(ast.Name):
         up = file.above[node]
         if node.id in OWN_CALLS and not (isinstance(up, ast.Call) and up.func == node):
-            if not (isinstance(up, ast.keyword) and up.arg == "key" and node.id in AS_KEY) and called(up) != "isinstance":
+            is_key = isinstance(up, ast.keyword) and up.arg == "key" and node.id in AS_KEY
+            if not is_key and called(up) != "isinstance":
                 yield "L22", node.lineno
         if node.id in file.classes or node.id in OWN_ERRORS or (node.id in file.imported and node.id[1:2].islower()
                                                                 and node.id[0].isupper()):
@@ -505,7 +506,8 @@ class Checks(unittest.TestCase):
 
     def test_what_is_drawn_from_a_file_that_draws_it_itself(self):
         texts = {"a.py": "from onemoment.b import h\n\n\ndef g():\n    return h()\n",
-                 "b.py": "from onemoment.c import h\n\n\ndef f():\n    return h()\n", "c.py": "def h():\n    return 1\n"}
+                 "b.py": "from onemoment.c import h\n\n\ndef f():\n    return h()\n",
+                 "c.py": "def h():\n    return 1\n"}
         self.assertEqual(self.rules(texts), ["L16"])
 
     def test_a_method_in_one_class_and_a_value_in_another(self):

@@ -205,7 +205,8 @@ DRAWN = (
     Drawing(7, 7, 12, 12), Drawing(8, 4, 8, 25), Drawing(9, 40, 30, 1), Drawing(10, 20, 1000000, 3),
     Drawing(11, 40, 24, 1, true=True), Drawing(12, 40, 60, 5, true=True), Drawing(13, 40, 60, 0, true=True),
 )
-LINES = [drawing.line(how_many) for drawing in DRAWN for how_many in (1, 2, 9, 400, 399, *range(10, 100, 3), *[200] * 5)]
+LENGTHS = (1, 2, 9, 400, 399, *range(10, 100, 3), *[200] * 5)
+LINES = [drawing.line(how_many) for drawing in DRAWN for how_many in LENGTHS]
 
 
 def right_answers(calls):
